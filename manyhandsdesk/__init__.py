@@ -1,0 +1,1 @@
+"""Collections of many hands, which can be joined in any order."""
