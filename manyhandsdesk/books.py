@@ -33,6 +33,8 @@ class Book:
     def __init__(self, characters, forms_of):
         self.characters = characters
         self.forms_of = forms_of
+        # Call after call asks about the same sets: the kinds' least errors that were found, by the sets.
+        self.found = {}
 
 
 def read_book(octets):

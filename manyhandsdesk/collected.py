@@ -22,6 +22,19 @@ class Collection:
     def in_order(self):
         return [self.records[name] for name in sorted(self.records)]
 
+    def not_withdrawn(self):
+        return [record for record in self.in_order() if not record.withdrawn]
+
+    def goes_with(self, book):
+        """Whether it has as many characters as the book, and no record's set a state that its character hasn't."""
+        if self.characters != len(book.characters):
+            return False
+        for record in self.records.values():
+            for states, character in zip(record.sets, book.characters):
+                if states >> character.states != 0:
+                    return False
+        return True
+
     def lacks(self, record):
         """Whether it has no record of that hand and number, or a lesser one."""
         mine = self.records.get(record.name())

@@ -6,7 +6,11 @@ class WrongArgument(Exception):
 
 
 class NoneSuch(Exception):
-    """Collections of different numbers of characters, or no such record (-2)."""
+    """Collections of different numbers of characters, no such record, no such kind (-2)."""
+
+
+class DoesNotGo(Exception):
+    """The collection doesn't go with the book (-3)."""
 
 
 class WrongBytes(Exception):
@@ -22,4 +26,4 @@ class TooMuch(Exception):
 
 
 class NothingThere(Exception):
-    """There is no collection (-9)."""
+    """There is no collection, or no book is open (-9)."""

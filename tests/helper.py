@@ -1,4 +1,6 @@
-"""Bytes, calls and answers for the tests, made without the program's own code."""
+"""Bytes, calls and answers for the tests, and slow counts, made without the program's own code."""
+
+import itertools
 
 from manyhandsdesk.gathering import answers
 
@@ -80,6 +82,38 @@ def list_of(first, last, place=()):
     return [8, first, last, len(place)] + list(place)
 
 
+def part(first, last, place=()):
+    return [9, first, last, len(place)] + list(place)
+
+
+def kinds(hand, number):
+    return [10, hand, number]
+
+
+def count(kind, first, last, place=()):
+    return [11, kind, first, last, len(place)] + list(place)
+
+
+def table(first, last, place=()):
+    return [12, first, last, len(place)] + list(place)
+
+
+def odd():
+    return [13]
+
+
+def where(kind):
+    return [14, kind]
+
+
+def bytes_of():
+    return [15]
+
+
+def tally():
+    return [16]
+
+
 def whole():
     """A call that tells the whole collection of one character: all that an empty one lacks."""
     return lacking(collection_octets(1, []))
@@ -98,3 +132,64 @@ def answered(*calls):
         apart.append(row[at + 1:at + 1 + row[at]])
         at += 1 + row[at]
     return apart
+
+
+def individuals(characters):
+    """All individuals, tried one by one."""
+    for row in itertools.product(*[range(states) for states, hangs, applies_in in characters]):
+        fits = True
+        for state, (states, hangs, applies_in) in zip(row, characters):
+            if hangs:
+                applies = applies_in >> row[hangs - 1] & 1 == 1
+                fits = fits and (state != 0) == applies
+        if fits:
+            yield row
+
+
+def is_of(row, forms):
+    """Whether the individual is of a kind of these forms."""
+    return any(all(states >> state & 1 for state, states in zip(row, form)) for form in forms)
+
+
+def errors_against(row, sets):
+    return sum(1 for state, states in zip(row, sets) if not states >> state & 1)
+
+
+def slow_kinds(characters, kinds, sets, errors):
+    """The kinds that a specimen may be, each with its least errors, by going through all individuals."""
+    rows = list(individuals(characters))
+    found = []
+    for kind, forms in enumerate(kinds):
+        least = min(errors_against(row, sets) for row in rows if is_of(row, forms))
+        if least <= errors:
+            found.append((least, kind))
+    return [(kind, least) for least, kind in sorted(found)]
+
+
+def some_book(chance, most_characters=5, most_states=4, narrow=False):
+    """A small book out of chance: its characters and kinds; of narrow forms each set has one state."""
+    characters = []
+    for k in range(chance.randint(1, most_characters)):
+        hangs = chance.randint(0, k)
+        applies_in = 0
+        while hangs and not applies_in:
+            applies_in = chance.randrange(2 ** characters[hangs - 1][0])
+            if characters[hangs - 1][1]:
+                applies_in &= ~1
+        characters.append((chance.randint(2, most_states), hangs, applies_in))
+    rows = list(individuals(characters))
+    kinds = []
+    for k in range(chance.randint(1, 4)):
+        forms = []
+        for j in range(chance.randint(1, 3)):
+            form = [1 << state for state in chance.choice(rows)]
+            if not narrow:
+                form = [states | some_set(chance, c[0]) for states, c in zip(form, characters)]
+            forms.append(form)
+        kinds.append(forms)
+    return characters, kinds
+
+
+def some_set(chance, states):
+    """A set of the states that is not empty."""
+    return chance.randrange(1, 2 ** states)

@@ -5,27 +5,15 @@ import unittest
 
 from manyhandsdesk.books import read_book
 from manyhandsdesk.gathering import Desk, answer
-from tests.helper import (BOOK_MARK, answered, book_octets, list_of, low_first, new, open_book, take,
-                          collection_octets, with_book_head)
+from tests.helper import (BOOK_MARK, answered, book_octets, collection_octets, individuals, is_of, list_of, low_first,
+                          new, open_book, take, with_book_head)
 
 FREE = (2, 0, 0)
 ONE_KIND = [[[1]]]
 
 
-def individuals(characters):
-    """All individuals, tried one by one."""
-    for row in itertools.product(*[range(states) for states, hangs, applies_in in characters]):
-        fits = True
-        for state, (states, hangs, applies_in) in zip(row, characters):
-            if hangs:
-                applies = applies_in >> row[hangs - 1] & 1 == 1
-                fits = fits and (state != 0) == applies
-        if fits:
-            yield row
-
-
 def form_has_one(characters, form):
-    return any(all(states >> state & 1 for state, states in zip(row, form)) for row in individuals(characters))
+    return any(is_of(row, [form]) for row in individuals(characters))
 
 
 class OpenTest(unittest.TestCase):
